@@ -1,0 +1,1 @@
+"""Words with opposites, and what they make."""
