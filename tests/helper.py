@@ -7,6 +7,8 @@ from undowords.moves import answers
 LEAST = -2147483648
 GREATEST = 2147483647
 NO_SLOTS = (-1, 8, LEAST, GREATEST)
+# No number m or n of words.
+NO_SETS = (-1, 256, LEAST, GREATEST)
 
 
 def begin():
@@ -42,6 +44,35 @@ def alike(i, j):
     return [6, i, j]
 
 
+def made(m, i):
+    return [7, m, i]
+
+
+def few(m):
+    return [8, m]
+
+
+def kinds(m):
+    return [9, m]
+
+
+def same(m, n):
+    return [10, m, n]
+
+
+def both(m, n):
+    return [11, m, n]
+
+
+def read(i, most):
+    return [12, i, most]
+
+
+def put(rows, start=0):
+    """Word start is the first of the rows, the next ones are behind it."""
+    return [word(start + place, row) for place, row in enumerate(rows)]
+
+
 def turned(row):
     return [-letter for letter in reversed(row)]
 
@@ -51,17 +82,36 @@ def joined(calls):
 
 
 class CallCase(unittest.TestCase):
-    def ask(self, calls):
-        """The one number that each of the calls answers."""
+    def ask_lists(self, calls):
+        """The numbers that each of the calls answers."""
         given = answers(joined(calls))
         self.assertIs(type(given), list)
         for number in given:
             self.assertIs(type(number), int)
-        self.assertEqual(given[0::2], [1] * len(calls))
-        return given[1::2]
+        lists = []
+        while given:
+            count = given[0]
+            self.assertTrue(1 <= count < len(given), "a call answers at least one number")
+            lists.append(given[1:count + 1])
+            given = given[count + 1:]
+        self.assertEqual(len(lists), len(calls))
+        return lists
+
+    def ask(self, calls):
+        """The one number that each of the calls answers."""
+        lists = self.ask_lists(calls)
+        self.assertEqual([len(answer) for answer in lists], [1] * len(calls))
+        return [answer[0] for answer in lists]
 
     def last(self, calls):
         return self.ask(calls)[-1]
+
+    def ask_after(self, r, rows, questions):
+        """What each of the questions answers where there are r letters and the words are the rows."""
+        before = [begin(), letters(r)] + put(rows)
+        for row in rows:
+            self.assertLessEqual(len(row), 16)
+        return self.ask(before + list(questions))[len(before):]
 
     def assert_words(self, calls, expected):
         """Behind the calls the words are those of the dict expected, all others nothing."""

@@ -1,15 +1,20 @@
 """The eight words and how many letters there are, and the calls on them.
 
-Each call gives back the number that it answers.
+Each call gives back the number that it answers, but read: that one gives back a list.
 """
 
+from undowords.graph import count_kinds, fewest_words, graph_of, graph_of_both, makes, makes_all
 from undowords.words import are_alike, opposite_of, power_of, product_of, reduced, root_of
 
 WORDS = 8
 LONGEST_WORD = 16
+# A bit for each word says whether it's among the words of a number.
+NUMBERS_OF_WORDS = 256
+# Words are light with at most so many letters together.
+MOST_LIGHT_LETTERS = 64
 LETTERS_AT_FIRST = 2
 LETTERS_AT_MOST = 4
-# A letter below 0 is handed over as this much more.
+# A letter below 0 is handed over and told as this much more.
 OPPOSITE_SHIFT = 256
 
 WRONG = -1
@@ -43,6 +48,11 @@ def letter_of(number, letter_count):
     if OPPOSITE_SHIFT - letter_count <= number < OPPOSITE_SHIFT:
         return number - OPPOSITE_SHIFT
     return 0
+
+
+def number_of(letter):
+    """The number that stands for a letter where letters are told."""
+    return letter if letter > 0 else letter + OPPOSITE_SHIFT
 
 
 def call_begin(board):
@@ -93,3 +103,59 @@ def call_alike(board, i, j):
     if not (has_word(i) and has_word(j)):
         return WRONG
     return 1 if are_alike(board.words[i], board.words[j]) else 0
+
+
+def words_of(board, m):
+    return [board.words[i] for i in range(WORDS) if (m >> i) & 1 == 1]
+
+
+def has_light_words(board, m):
+    if not 0 <= m < NUMBERS_OF_WORDS:
+        return False
+    return sum([len(word) for word in words_of(board, m)]) <= MOST_LIGHT_LETTERS
+
+
+def graph_made(board, m):
+    return graph_of(words_of(board, m))
+
+
+def call_made(board, m, i):
+    if not (has_light_words(board, m) and has_word(i)):
+        return WRONG
+    return 1 if makes(graph_made(board, m), board.words[i]) else 0
+
+
+def call_few(board, m):
+    if not has_light_words(board, m):
+        return WRONG
+    return fewest_words(graph_made(board, m))
+
+
+def call_kinds(board, m):
+    if not has_light_words(board, m):
+        return WRONG
+    return count_kinds(graph_made(board, m), board.letter_count)
+
+
+def call_same(board, m, n):
+    if not (has_light_words(board, m) and has_light_words(board, n)):
+        return WRONG
+    if not makes_all(graph_made(board, m), words_of(board, n)):
+        return 0
+    return 1 if makes_all(graph_made(board, n), words_of(board, m)) else 0
+
+
+def call_both(board, m, n):
+    if not (has_light_words(board, m) and has_light_words(board, n)):
+        return WRONG
+    return fewest_words(graph_of_both(graph_made(board, m), graph_made(board, n)))
+
+
+def call_read(board, i, most):
+    if not has_word(i):
+        return [WRONG]
+    word = board.words[i]
+    answer = [len(word)]
+    if 1 <= most <= LONGEST_WORD:
+        answer.extend([number_of(letter) for letter in word[:most]])
+    return answer
